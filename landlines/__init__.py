@@ -1,0 +1,1 @@
+"""Landlines: what straight fences leave of a field."""
