@@ -1,11 +1,12 @@
 """Fences: straight lines that keep one side, told as (a, b, c)."""
 
 from landlines.checks import check_size, is_number_within
-from landlines.errors import BadFence
+from landlines.errors import BadFence, TooMany
 from landlines.spots import spot_of
 
 MOST_SLOPE = 1000
 MOST_OFFSET = 1000000
+MOST_FENCES = 16
 
 
 def fence_of(a, b, c):
@@ -23,10 +24,28 @@ def _is_slope(value):
     return is_number_within(value, -MOST_SLOPE, MOST_SLOPE)
 
 
+def check_fence(value):
+    """Refuses with BadFence what is no fence."""
+    if not (isinstance(value, tuple) and len(value) == 3):
+        raise BadFence("a fence is a tuple of three numbers")
+    a, b, c = value
+    fence_of(a, b, c)
+
+
 def edges(size):
     """A new list of the four edges of a field: left, lower, right, upper."""
     check_size(size)
     return [(-1, 0, 0), (0, -1, 0), (1, 0, size), (0, 1, size)]
+
+
+def fences_and_edges(size, fences):
+    """A new list of the fences and, behind them, the edges: each stands at its number."""
+    behind = edges(size)
+    if len(fences) > MOST_FENCES:
+        raise TooMany("a list of fences has at most 16")
+    for fence in fences:
+        check_fence(fence)
+    return [*fences, *behind]
 
 
 def reach(fence, spot):
